@@ -108,7 +108,8 @@ class Fault3(Faults):
                     self.check_act(sort + " " + row.replace("*", word), 3)
 
     def test_names_of_8_and_9_signs(self):
-        self.check_good("kind abcdefgh\nfact a2345678 abcdefgh\nthing z7654321 abcdefgh\nact zzzzzzzz 1 y2345678 abcdefgh")
+        self.check_good(lines("kind abcdefgh", "fact a2345678 abcdefgh", "thing z7654321 abcdefgh",
+                              "act zzzzzzzz 1 y2345678 abcdefgh"))
         self.check("kind abcdefghi", 1, 3)
         self.check("fact a23456789", 1, 3)
 
