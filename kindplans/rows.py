@@ -40,6 +40,10 @@ def things_of(text, kind):
     return [number for number, own in enumerate(text.thing_kinds) if own == kind]
 
 
+def thing_names(text, things):
+    return [text.things[number] for number in things]
+
+
 def fact_set(text, facts, claims):
     bits = 0
     for claim in claims:

@@ -32,6 +32,10 @@ FORBIDDEN_WORDS = re.compile(
 )
 WALKED = ("zip", "enumerate", "reversed", "range", "items", "keys", "values")
 WALKERS = ("list", "tuple", "dict", "sorted", "sum", "any", "all", "enumerate", "zip", "min", "max")
+KEYWORDS = {
+    "sorted": ("key", "reverse"), "min": ("key", "default"), "max": ("key", "default"), "sum": ("start",),
+    "enumerate": ("start",), "zip": ("strict",),
+}
 PLAIN_NAME = re.compile(r"[A-Za-z][A-Za-z0-9_]*$")
 
 
@@ -188,6 +192,18 @@ class Language(unittest.TestCase):
             if isinstance(node.ctx, ast.Store):
                 for sort in (str, int, list, dict, set, bytes, tuple):
                     self.assertFalse(node.attr in dir(sort), node.attr)
+
+    def test_keywords(self):
+        self.on_each(self.check_keywords)
+
+    def check_keywords(self, module):
+        for node in module.all_of(ast.Call):
+            for keyword in node.keywords:
+                self.assertIn(keyword.arg, KEYWORDS.get(called_name(node), ()))
+                if keyword.arg == "key":
+                    self.assertIsInstance(keyword.value, (ast.Name, ast.Lambda))
+                if keyword.arg in ("reverse", "strict"):
+                    self.assertIsInstance(keyword.value, ast.Constant)
 
     def test_classes(self):
         self.on_each(self.check_classes)
